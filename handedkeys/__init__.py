@@ -1,0 +1,1 @@
+"""Rights that people hand on by policies, decided for all deeds."""
