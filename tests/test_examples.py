@@ -35,6 +35,50 @@ EXAMPLES = {
 >>> [all_that_come(policy, state), found.shows(policy, state, ('box', 'use', 'cup')), bool(judge_can(policy, state, ('cup', 'use', 'box')))]
 [[('ann', 'give', 'box'), ('ann', 'use', 'cup'), ('box', 'use', 'cup')], True, False]
 """,
+    "rounds": """
+>>> from handedkeys.policies import Policy
+>>> from handedkeys.rounds import at_once, last_round, rounds
+>>> from handedkeys.states import State
+>>> policy = Policy([('fetch', 'see', [('see', 'see')])])
+>>> state = State(['ann', 'bob', 'cat'], ['box'], [('ann', 'see', 'bob'), ('bob', 'see', 'cat'), ('cat', 'see', 'box')])
+>>> [rounds(policy, state), last_round(policy, state), len(at_once(policy, state, 1))]
+[{('ann', 'see', 'bob'): 0, ('ann', 'see', 'box'): 2, ('ann', 'see', 'cat'): 1, ('bob', 'see', 'box'): 1, ('bob', 'see', 'cat'): 0, ('cat', 'see', 'box'): 0}, 2, 5]
+""",
+    "fewest": """
+>>> from handedkeys.fewest import fewest_deeds, is_enough
+>>> from handedkeys.policies import Policy
+>>> from handedkeys.states import State
+>>> policy = Policy([('fetch', 'see', [('see', 'see')])])
+>>> state = State(['ann', 'bob'], ['cup', 'box'], [('ann', 'see', 'bob'), ('bob', 'see', 'cup'), ('cup', 'see', 'box')])
+>>> found = fewest_deeds(policy, state, ('ann', 'see', 'box'))
+>>> [len(found), is_enough(policy, state, ('ann', 'see', 'box'), found.deeds), len(fewest_deeds(policy, state, ('bob', 'see', 'cup')))]
+[2, True, 0]
+""",
+    "following": """
+>>> from handedkeys.following import are_alike, bare_state, judge_follows, lean
+>>> from handedkeys.policies import Policy
+>>> policy = Policy([('raise', 'own', 'use'), ('raise', 'own', 'lend'), ('raise', 'lend', 'use')])
+>>> other = Policy([('raise', 'lend', 'use'), ('raise', 'own', 'lend')])
+>>> [lean(policy) == Policy(policy.rules[1:]), are_alike(policy, other), judge_follows(policy, Policy(policy.rules[:2])).number, list(bare_state(policy, 2)[0]), bare_state(policy, 2)[1]]
+[True, True, 2, [('ann', 'lend', 'box')], [('ann', 'use', 'box')]]
+""",
+    "frames": """
+>>> from handedkeys.frames import Frame, frame_rights, judge_frame
+>>> from handedkeys.policies import Policy
+>>> policy = Policy([('fetch', 'trust', [('use', 'use')])])
+>>> frame = Frame(['clerk'], ['desk'], [('clerk', 'trust', 'clerk'), ('clerk', 'use', 'desk')])
+>>> [frame_rights(policy, frame), bool(judge_frame(policy, frame, ('clerk', 'use', 'clerk'), is_other=True)), frame.state({'desk': 2}).parties()]
+[[('clerk', 'trust', 'clerk', False), ('clerk', 'trust', 'clerk', True), ('clerk', 'use', 'desk', False)], False, ['clerkza', 'deskza', 'deskzb']]
+""",
+    "helping": """
+>>> from handedkeys.helping import is_theft, least_help, needed_help
+>>> from handedkeys.policies import Policy
+>>> from handedkeys.states import State
+>>> policy = Policy([('hand', 'give', [('use', 'use')]), ('fetch', 'ask', [('use', 'use')])])
+>>> state = State(['ann', 'bob', 'cat'], ['box'], [('ann', 'use', 'box'), ('ann', 'give', 'bob'), ('bob', 'give', 'cat'), ('cat', 'ask', 'bob')])
+>>> [least_help(policy, state, ('cat', 'use', 'box')), needed_help(policy, state, ('cat', 'use', 'box')), is_theft(policy, state, ('cat', 'use', 'box'))]
+[[('ann', 'bob'), ('ann', 'cat')], ['ann'], False]
+""",
 }
 
 
