@@ -110,7 +110,7 @@ def shortest_way(steps, goal):
     layer = [0]
     while layer:
         following = []
-        for there in layer:
+        for there in list(layer):
             for bit, ways in steps:
                 ready = [deed for needs, deed in ways if needs & there == needs]
                 if there | bit in ahead or not ready:

@@ -49,7 +49,7 @@ def least_sets(web, rows, many, right):
     layer = [((place,), rows) for place in range(many)]
     while layer:
         following = []
-        for places, behind in layer:
+        for places, behind in list(layer):
             if any([is_part(less, places) for less in found]):
                 continue
             grown = {word: list(row) for word, row in behind.items()}

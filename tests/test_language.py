@@ -20,6 +20,9 @@ BARRED_NAMES = set("""register mro elements open input law version_info with_tra
 BARRED_WORDS = re.compile(r"\b(type|typing|typing_extensions|enum|Enum|IntEnum|StrEnum|Flag|IntFlag|Generic|Protocol|"
                           r"ABC|ABCMeta|namedtuple|NamedTuple|TypedDict|TYPE_CHECKING|abstractmethod)\b|"
                           r"dataclass|overload|contextmanager|_wall|Meta|metaclass=")
+WALKS = ("enumerate", "zip", "reversed")
+VIEWS = ("items", "keys", "values")
+CHANGES = ("append", "extend", "insert", "pop", "remove", "reverse", "clear", "sort", "update", "setdefault")
 LISTLESS = ("any", "all", "sum", "min", "max", "sorted", "list", "tuple", "dict", "set")
 STATEMENTS = (ast.Assign, ast.AugAssign, ast.If, ast.While, ast.For, ast.Return, ast.Break, ast.Continue, ast.Pass,
               ast.Raise, ast.Assert, ast.Delete, ast.Nonlocal, ast.With, ast.Yield, ast.Try, ast.Expr,
@@ -36,6 +39,56 @@ def sources():
 def trees():
     for name, text in sources():
         yield name, ast.parse(text)
+
+
+def bound_pairs(function):
+    """All pairs of names of a function of which one is given what the other one is."""
+    for node in ast.walk(function):
+        if isinstance(node, ast.Assign):
+            for target in node.targets:
+                both = [(target, node.value)]
+                if isinstance(target, ast.Tuple) and isinstance(node.value, ast.Tuple):
+                    both = list(zip(target.elts, node.value.elts))
+                for one, other in both:
+                    for value in [other] + [getattr(other, part) for part in ("body", "orelse") if hasattr(other, part)]:
+                        if isinstance(one, ast.Name) and isinstance(value, ast.Name):
+                            yield one.id, value.id
+
+
+def walked_names(walk):
+    """The names of what a loop walks, not those of a copy."""
+    if isinstance(walk, ast.Call):
+        inner = walk.args if isinstance(walk.func, ast.Name) and walk.func.id in WALKS else []
+        inner += [walk.func.value] if isinstance(walk.func, ast.Attribute) and walk.func.attr in VIEWS else []
+        return [name for part in inner for name in walked_names(part)]
+    if isinstance(walk, (ast.IfExp, ast.BoolOp)):
+        parts = walk.values if isinstance(walk, ast.BoolOp) else [walk.body, walk.orelse]
+        return [name for part in parts for name in walked_names(part)]
+    return [walk.id] if isinstance(walk, ast.Name) else []
+
+
+def changed_in(node):
+    """The name that a part of a loop changes; None where it changes none."""
+    if isinstance(node, ast.Call) and isinstance(node.func, ast.Attribute) and isinstance(node.func.value, ast.Name):
+        return node.func.value.id if node.func.attr in CHANGES else None
+    if isinstance(node, ast.Subscript) and not isinstance(node.ctx, ast.Load) and isinstance(node.value, ast.Name):
+        return node.value.id
+    return node.target.id if isinstance(node, ast.AugAssign) and isinstance(node.target, ast.Name) else None
+
+
+def changed_walks(function):
+    """The ascending list of the lines on which a loop changes what it walks, by whatever name (L23)."""
+    kin = {}
+    for one, other in bound_pairs(function):
+        joint = kin.get(one, {one}) | kin.get(other, {other})
+        for name in joint:
+            kin[name] = joint
+    lines = set()
+    for loop in ast.walk(function):
+        walks = [loop.iter] if isinstance(loop, ast.For) else [part.iter for part in getattr(loop, "generators", [])]
+        walked = {other for walk in walks for name in walked_names(walk) for other in kin.get(name, {name})}
+        lines |= {node.lineno for node in ast.walk(loop) if changed_in(node) in walked}
+    return sorted(lines)
 
 
 class LanguageTest(unittest.TestCase):
@@ -126,6 +179,22 @@ class LanguageTest(unittest.TestCase):
                 if isinstance(node, ast.Call) and isinstance(node.func, ast.Name) and node.func.id == "set":
                     text = dict(sources())[name].split("\n")[node.lineno - 1]
                     self.assertRegex(text, r"(sorted|len)\(set\(|in set\(|= set\(", where)
+
+    def test_loops_walk_what_they_do_not_change(self):
+        for name, tree in trees():
+            for function in ast.walk(tree):
+                if isinstance(function, ast.FunctionDef):
+                    self.assertEqual(changed_walks(function), [], (name, function.name))
+
+    def test_changed_walks_are_seen(self):
+        for text, lines in (("for x in a:\n        a.append(x)", [2]), ("for x in list(a):\n        a.append(x)", []),
+                            ("while a:\n        b = []\n        for x in a:\n            b.append(x)\n        a = b", [4]),
+                            ("while a:\n        b = []\n        for x in list(a):\n            b.append(x)\n        a = b", []),
+                            ("c, d = a, 1\n    for k, x in enumerate(a):\n        c[k] = x", [3]),
+                            ("for k, x in a.items():\n        b[k] = x", []), ("for k in a or b:\n        b.pop()", [2]),
+                            ("return [a.pop() for k in a]", [1])):
+            function = ast.parse("def f(a, b):\n    " + text).body[0]
+            self.assertEqual(changed_walks(function), [line + 1 for line in lines], text)
 
     def test_classes(self):
         for name, tree in trees():
