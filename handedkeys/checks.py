@@ -1,11 +1,12 @@
 """The refusals that most functions have in common, in the order in which they come."""
 
-from handedkeys.errors import BadPolicy, BadRight, BadState, TooLarge
-from handedkeys.forms import is_right
+from handedkeys.errors import BadNumber, BadParty, BadPolicy, BadRight, BadState, TooLarge
+from handedkeys.forms import are_rights, is_place, is_right, is_row
 from handedkeys.policies import Policy
 from handedkeys.states import State
 
 MOST_PARTIES = 12
+MOST_WILLING = 8
 
 
 def check_policy(policy):
@@ -33,3 +34,30 @@ def check_question(policy, state, right):
     check_case(policy, state)
     if not is_right(right, state.people + state.things):
         raise BadRight("this is no right between the parties")
+
+
+def check_rights(state, rights):
+    """Refuse what is no list or tuple of rights between the parties."""
+    if not are_rights(rights, state.people + state.things):
+        raise BadRight("this is no list of rights between the parties")
+
+
+def check_people(state, names):
+    """Refuse what is no list or tuple of some of the people."""
+    if not is_row(names):
+        raise BadParty(None)
+    for name in names:
+        if name not in state.people:
+            raise BadParty(name)
+
+
+def check_willing(state):
+    """Refuse a state of more people than can be gone through, set by set."""
+    if len(state.people) > MOST_WILLING:
+        raise TooLarge("the state has too many people")
+
+
+def check_most(most, top):
+    """Refuse what is no integer from 0 up to a greatest one."""
+    if not is_place(most, top + 1):
+        raise BadNumber("this is no such number")

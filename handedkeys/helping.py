@@ -1,12 +1,10 @@
 """By whose deeds a right can come up, if others are not willing."""
 
-from handedkeys.checks import check_case, check_question
-from handedkeys.errors import BadParty, TooLarge
-from handedkeys.forms import is_row
+from handedkeys.checks import check_case, check_people, check_question, check_willing
+from handedkeys.errors import BadParty
+from handedkeys.groups import is_part
 from handedkeys.reaching import Reach
 from handedkeys.webs import Web
-
-MOST_WILLING = 8
 
 
 def comes_with(policy, state, right, names):
@@ -17,19 +15,14 @@ def comes_with(policy, state, right, names):
 def comes_by(policy, state, right, names):
     """Whether a right can come up by the deeds of some people alone."""
     check_question(policy, state, right)
-    if not is_row(names):
-        raise BadParty(None)
-    for name in names:
-        if name not in state.people:
-            raise BadParty(name)
+    check_people(state, names)
     return comes_with(policy, state, right, [name for name in state.people if name in names])
 
 
 def least_help(policy, state, right):
     """The list of the least sets of people by whose deeds a right can come up."""
     check_question(policy, state, right)
-    if len(state.people) > MOST_WILLING:
-        raise TooLarge("the state has too many people")
+    check_willing(state)
     if right in state.rights:
         return [()]
     if not comes_with(policy, state, right, state.people):
@@ -60,11 +53,6 @@ def least_sets(web, rows, many, right):
                 following.extend([(places + (place,), grown) for place in range(places[-1] + 1, many)])
         layer = following
     return found
-
-
-def is_part(less, places):
-    """Whether all of one group are in another one."""
-    return all([place in places for place in less])
 
 
 def needed_help(policy, state, right):

@@ -68,22 +68,31 @@ class Reach:
             return (self.make_number, right[0], right[2])
         return self.deeds_for(right, self.since[right])[0]
 
-    def deeds_to(self, goal):
-        """Deeds that lead to a right that can come up, helpers in them as names of made things."""
-        steps = {}
-        seen = {goal: True}
+    def way_to(self, goal):
+        """A dict from a right that can come up, and all that deeds for it ask for, to these deeds.
+
+        None stands in the place of a deed for what is there at the beginning.
+        """
+        way = {}
         ahead = [goal]
         while ahead:
             right = ahead.pop()
-            if self.since[right] == 0:
+            if right in way:
                 continue
-            deed = self.deed_for(right)
-            steps[self.since[right], deed] = True
-            for asked in asked_for(self.rules, deed):
-                if asked not in seen:
-                    seen[asked] = True
-                    ahead.append(asked)
+            way[right] = None if self.since[right] == 0 else self.deed_for(right)
+            if way[right] is not None:
+                ahead.extend(asked_for(self.rules, way[right]))
+        return way
+
+    def deeds_to(self, goal):
+        """Deeds that lead to a right that can come up, helpers in them as names of made things."""
+        steps = {(self.since[right], deed): True for right, deed in self.way_to(goal).items() if deed is not None}
         return with_names([deed for _, deed in sorted(steps)], self.inside)
+
+
+def grounds_of(way):
+    """The list of the rights of a way that are there at the beginning."""
+    return [right for right, deed in way.items() if deed is None]
 
 
 def reach_of(rules, state):

@@ -32,15 +32,16 @@ class Web:
     """Rules over the numbered parties and helpers of a state.
 
     The rights stand in rows, for each word of the rules a list of numbers: bit k of
-    rows[word][one] is set, if party one has the word on party k. Other words never spread.
-    People are numbered first, in their order, and helpers last.
+    rows[word][one] is set, if party one has the word on party k. Other words never spread,
+    and have rows only if they are given, too. People are numbered first, in their order, and
+    helpers last.
     """
 
-    def __init__(self, rules, people, things):
+    def __init__(self, rules, people, things, words=()):
         self.names = people + things + helpers(rules, people)
         self.place = {name: at for at, name in enumerate(self.names)}
         self.gift = made_words(rules)
-        self.terms = rule_words(rules)
+        self.terms = sorted(set(rule_words(rules) + list(words)))
         self.fetch_by = {word: [] for word in self.terms}
         self.fetch_of = {word: [] for word in self.terms}
         self.hand_by = {word: [] for word in self.terms}
@@ -75,10 +76,15 @@ class Web:
                 rows[word][self.place[one]] |= 1 << self.place[other]
         return rows
 
+    def spot(self, right):
+        """The word and the party in whose row a right stands, and its bit there."""
+        one, word, other = right
+        return (word, self.place[one]), 1 << self.place[other]
+
     def has(self, rows, right):
         """Whether a right with a word of the rules is in some rows."""
-        one, word, other = right
-        return rows[word][self.place[one]] >> self.place[other] & 1 == 1
+        (word, one), bit = self.spot(right)
+        return rows[word][one] & bit != 0
 
     def rights_in(self, wave):
         """The list of the rights that a wave has."""
@@ -102,13 +108,29 @@ class Web:
         waves = [fresh]
         more = self.consequences(rows, fresh, waking)
         for key, mask in self.makes(waking).items():
-            self._put(rows, more, key, mask)
+            self.note(rows, more, key, mask)
         while more:
-            for (word, one), mask in more.items():
-                rows[word][one] |= mask
+            put_in(rows, more)
             waves.append(more)
             more = self.consequences(rows, more, actors)
         return waves
+
+    def grown(self, rows, rights, actors, stops):
+        """New rows, of some rights more, and of all that comes of them; None if a wave of stops is met.
+
+        All deeds that can be done by the rows that are given are done there already.
+        """
+        later = {word: list(row) for word, row in rows.items()}
+        more = {}
+        for right in rights:
+            key, bit = self.spot(right)
+            self.note(later, more, key, bit)
+        while more:
+            if any([mask & stops.get(key, 0) for key, mask in more.items()]):
+                return None
+            put_in(later, more)
+            more = self.consequences(later, more, actors)
+        return later
 
     def consequences(self, rows, fresh, actors):
         """The wave of what people get and give by single deeds that ask for something fresh."""
@@ -123,39 +145,45 @@ class Web:
                 holders = rows[base]
                 for actor in actors:
                     if holders[actor] & bit:
-                        self._put(rows, more, (target, actor), mask)
+                        self.note(rows, more, (target, actor), mask)
         return more
 
     def _act(self, rows, more, word, one, mask):
         """What a person gets by having a word on fresh parties."""
         for target in self.lifts[word]:
-            self._put(rows, more, (target, one), mask)
+            self.note(rows, more, (target, one), mask)
         for partner, target in self.meets[word]:
-            self._put(rows, more, (target, one), mask & rows[partner][one])
+            self.note(rows, more, (target, one), mask & rows[partner][one])
         if self.fetch_by[word]:
             near = bit_places(mask)
             for source, target in self.fetch_by[word]:
                 found = 0
                 for other in near:
                     found |= rows[source][other]
-                self._put(rows, more, (target, one), found)
+                self.note(rows, more, (target, one), found)
 
     def _hand_on(self, rows, more, word, one, mask):
         """What others get from a person who has a word on fresh parties."""
         for source, target in self.hand_by[word]:
             if rows[source][one]:
                 for other in bit_places(mask):
-                    self._put(rows, more, (target, other), rows[source][one])
+                    self.note(rows, more, (target, other), rows[source][one])
         for base, target in self.hand_of[word]:
             for other in bit_places(rows[base][one]):
-                self._put(rows, more, (target, other), mask)
+                self.note(rows, more, (target, other), mask)
 
-    def _put(self, rows, more, key, mask):
+    def note(self, rows, more, key, mask):
         """Put those bits into a wave that are in no row yet."""
         word, one = key
         new = mask & ~rows[word][one]
         if new:
             more[key] = more.get(key, 0) | new
+
+
+def put_in(rows, wave):
+    """Put all of a wave into some rows."""
+    for (word, one), mask in wave.items():
+        rows[word][one] |= mask
 
 
 def everything(rows):

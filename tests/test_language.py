@@ -117,7 +117,9 @@ class LanguageTest(unittest.TestCase):
             module = "handedkeys." + name[:-3]
             needs[module] = set()
             for node in tree.body:
-                if isinstance(node, ast.ImportFrom):
+                if isinstance(node, ast.ImportFrom) and node.module == "math":
+                    self.assertEqual([(alias.name, alias.asname) for alias in node.names], [("gcd", None)], name)
+                elif isinstance(node, ast.ImportFrom):
                     self.assertTrue(node.module.startswith("handedkeys.") and node.level == 0, name)
                     needs[module].add(node.module)
                     target = ast.parse(dict(sources())[node.module.split(".")[1] + ".py"])
