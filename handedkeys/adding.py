@@ -1,5 +1,6 @@
 """What comes up in a state if rights are added to it."""
 
+from handedkeys.tracing import Trace
 from handedkeys.webs import Web, everything
 
 
@@ -10,6 +11,7 @@ class Ground:
     """
 
     def __init__(self, rules, state, rights):
+        self.rules = rules
         self.web = Web(rules, state.people, state.things, [right[1] for right in state.rights + list(rights)])
         self.actors = [self.web.place[name] for name in state.people]
         self.rows = self.web.rows_of(state.rights)
@@ -22,6 +24,11 @@ class Ground:
     def with_more(self, rows, rights):
         """New rows, of rights more than in some rows, and of all that comes up then."""
         return self.web.grown(rows, rights, self.actors, {})
+
+    def on_ways(self, come, rights, goals):
+        """The list of those of some rights on which a way to one of some goals goes, by rows of all that comes up."""
+        ways = Trace(self.rules, self.web, self.actors, come).ways_to(goals)
+        return [right for right in rights if self.web.has(ways, right)]
 
 
 def absent_rights(state, words):
@@ -37,15 +44,21 @@ def words_with(policy, state):
     return sorted(set(policy.words() + [right[1] for right in state.rights]))
 
 
-def bringing(ground, rows, rights, goals):
+def bringing(ground, rights, goals):
+    """The list of those of some rights with each of which alone one of some goals comes up."""
+    if any([ground.has(goal) for goal in goals]):
+        return list(rights)
+    useful = ground.on_ways(ground.with_more(ground.rows, rights), rights, goals)
+    return bringing_beside(ground, ground.rows, useful, goals)
+
+
+def bringing_beside(ground, rows, rights, goals):
     """The list of those of some rights with each of which alone, beside rows, one of some goals comes up.
 
     A right is not tried if it comes up beside one that brings no goal, and is not followed further
     than to one that brings a goal.
     """
     web = ground.web
-    if any([web.has(rows, goal) for goal in goals]):
-        return list(rights)
     harmless = {word: list(row) for word, row in rows.items()}
     stops = everything(web.rows_of(goals))
     found = []
@@ -68,13 +81,15 @@ def least_added(ground, rights, goal, most):
 
     They are ascending tuples, if the rights ascend, single ones first, then ascending.
     """
-    single = bringing(ground, ground.rows, rights, [goal])
+    useful = ground.on_ways(ground.with_more(ground.rows, rights), rights, [goal])
+    single = bringing_beside(ground, ground.rows, useful, [goal])
     found = [(right,) for right in single]
     if most < 2:
         return found
     alone = {right: True for right in single}
-    others = [right for right in rights if right not in alone and not ground.has(right)]
+    others = [right for right in useful if right not in alone and not ground.has(right)]
     for place, first in enumerate(others):
         rows = ground.with_more(ground.rows, [first])
-        found.extend([(first, second) for second in bringing(ground, rows, others[place + 1:], single + [goal])])
+        pairs = bringing_beside(ground, rows, others[place + 1:], single + [goal])
+        found.extend([(first, second) for second in pairs])
     return found

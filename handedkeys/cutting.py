@@ -6,7 +6,6 @@ from handedkeys.errors import BadRight, TooLarge
 from handedkeys.forms import is_row, is_triple
 from handedkeys.groups import least_groups
 from handedkeys.reaching import grounds_of, reach_of
-from handedkeys.tracing import on_some_way
 
 MOST_CUT = 3
 MOST_ON_WAYS = 14
@@ -17,8 +16,7 @@ def least_cuts(policy, state, right, most=2):
     check_question(policy, state, right)
     check_most(most, MOST_CUT)
     ground = Ground(policy.rules, state, [right])
-    rows = on_some_way(policy.rules, ground, right)
-    rights = [one for one in state.rights if ground.web.has(rows, one)]
+    rights = ground.on_ways(ground.rows, state.rights, [right])
     if len(rights) > MOST_ON_WAYS:
         raise TooLarge("ways go on too many rights of the state")
     return least_groups(rights, most, lambda gone: grounds_without(policy, state, right, gone))

@@ -113,7 +113,10 @@ def does_case(doing, rules, case):
 
 def does_rule(doing, rule):
     """Whether some rules do what a single rule does, with all its pairs."""
-    return all([does_case(doing, [rule], case) for case in cases([rule])])
+    for case in cases([rule]):
+        if not does_case(doing, [rule], case):
+            return False
+    return True
 
 
 def is_way(rules, case, doing, deeds):

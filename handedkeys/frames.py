@@ -114,6 +114,11 @@ def check_frame_question(policy, frame, right, is_other):
         raise BadRight("this is no such right between roles")
 
 
+def role_of(name):
+    """The role of a member, by its name."""
+    return name[:-2]
+
+
 def first_case(frame, right, is_other):
     """The state that is enough for all numbers, and the right between its first members."""
     one, word, other = right
@@ -135,7 +140,8 @@ def judge_frame(policy, frame, right, *, is_other=False):
 def frame_rights(policy, frame):
     """The ascending list of all rights of roles that can come up, each with is_other behind it."""
     check_frame(policy, frame)
-    found = [(one[:-2], word, other[:-2], False) for one, word, other in all_that_come(policy, frame.state())]
+    come = all_that_come(policy, frame.state())
+    found = [(role_of(one), word, role_of(other), False) for one, word, other in come]
     for role in frame.roles():
         first, second = frame.members(role, 2)
         come = all_that_come(policy, frame.state({role: 2}))

@@ -35,5 +35,5 @@ def gifts_but(policy, state, right, promises):
     check_rights(state, promises)
     rights = gifts_of(policy, state, right)
     ground = Ground(policy.rules, state, [right] + list(promises))
-    harmful = {one: True for one in bringing(ground, ground.rows, rights, promises)}
-    return [one for one in bringing(ground, ground.rows, rights, [right]) if one not in harmful]
+    harmful = {one: True for one in bringing(ground, rights, promises)}
+    return [one for one in bringing(ground, rights, [right]) if one not in harmful]

@@ -113,5 +113,5 @@ def can_be_added(policy, state, promises):
     check_rights(state, promises)
     rights = absent_rights(state, words_with(policy, state))
     ground = Ground(policy.rules, state, promises)
-    harmful = {right: True for right in bringing(ground, ground.rows, rights, promises)}
+    harmful = {right: True for right in bringing(ground, rights, promises)}
     return [right for right in rights if right not in harmful]

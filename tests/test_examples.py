@@ -79,6 +79,93 @@ EXAMPLES = {
 >>> [least_help(policy, state, ('cat', 'use', 'box')), needed_help(policy, state, ('cat', 'use', 'box')), is_theft(policy, state, ('cat', 'use', 'box'))]
 [[('ann', 'bob'), ('ann', 'cat')], ['ann'], False]
 """,
+    "cutting": """
+>>> from handedkeys.cutting import idle_rights, least_cuts, only_hopes
+>>> from handedkeys.policies import Policy
+>>> from handedkeys.states import State
+>>> policy = Policy([('fetch', 'ask', [('use', 'use')])])
+>>> state = State(['ann'], ['bob', 'cat', 'box'], [('ann', 'ask', 'bob'), ('ann', 'ask', 'cat'), ('bob', 'use', 'box'), ('cat', 'use', 'box')])
+>>> [len(least_cuts(policy, state, ('ann', 'use', 'box'))), least_cuts(policy, state, ('ann', 'use', 'box'))[0], only_hopes(policy, state, ('ann', 'use', 'box')), idle_rights(policy, state)]
+[4, (('ann', 'ask', 'bob'), ('ann', 'ask', 'cat')), [], []]
+""",
+    "likeness": """
+>>> from handedkeys.likeness import classes, keeps, likenesses, rooms, wall
+>>> from handedkeys.policies import Policy
+>>> from handedkeys.states import State
+>>> policy, state = Policy([('raise', 'own', 'use')]), State(['ann', 'bob'], ['box'], [('ann', 'own', 'box'), ('bob', 'own', 'box')])
+>>> [classes(state), len(likenesses(state)), wall(policy, state, 'use', 'box'), rooms(policy, state, 'use')['ann'], keeps(policy, state, [('bob', 'use', 'box'), ('bob', 'use', 'ann')])]
+[[['ann', 'bob'], ['box']], 2, ['ann', 'bob'], ['box'], [('bob', 'use', 'box')]]
+""",
+    "whys": """
+>>> from handedkeys.policies import Policy
+>>> from handedkeys.states import State
+>>> from handedkeys.whys import by_them_alone, why
+>>> policy = Policy([('raise', 'own', 'lend'), ('hand', 'lend', [('lend', 'use')])])
+>>> state = State(['ann'], ['box'], [('ann', 'own', 'box')])
+>>> found = why(policy, state, ('box', 'use', 'box'))
+>>> [found.brings(), found.actors(), found.makers(), by_them_alone(policy, state, ['ann'])]
+[[('ann', 'lend', 'box'), ('box', 'use', 'box')], ['ann'], [], [('ann', 'lend', 'box'), ('box', 'use', 'box')]]
+""",
+    "chances": """
+>>> from handedkeys.chances import chance, count_help, weight_of
+>>> from handedkeys.policies import Policy
+>>> from handedkeys.states import State
+>>> policy = Policy([('hand', 'give', [('use', 'use')])])
+>>> state = State(['ann', 'bob'], ['box', 'cup'], [('ann', 'give', 'box'), ('bob', 'give', 'box'), ('ann', 'use', 'cup'), ('bob', 'use', 'cup')])
+>>> right = ('box', 'use', 'cup')
+>>> [count_help(policy, state, right), chance(policy, state, right, {'ann': (1, 2), 'bob': (1, 3)}), weight_of(policy, state, right, 'ann')]
+[[0, 2, 1], (2, 3), 1]
+""",
+    "gifts": """
+>>> from handedkeys.gifts import gifts_but, least_gifts
+>>> from handedkeys.policies import Policy
+>>> from handedkeys.states import State
+>>> policy, state = Policy([('raise', 'own', 'use')]), State(['ann'], ['box'])
+>>> [least_gifts(policy, state, ('ann', 'use', 'box')), gifts_but(policy, state, ('ann', 'use', 'box'), [('ann', 'own', 'box')])]
+[[(('ann', 'own', 'box'),), (('ann', 'use', 'box'),)], [('ann', 'use', 'box')]]
+""",
+    "rolehelp": """
+>>> from handedkeys.frames import Frame
+>>> from handedkeys.policies import Policy
+>>> from handedkeys.rolehelp import comes_by_roles, least_roles, needed_roles
+>>> policy = Policy([('hand', 'give', [('use', 'use')]), ('fetch', 'ask', [('use', 'use')])])
+>>> frame = Frame(['boss', 'clerk'], ['desk'], [('boss', 'give', 'clerk'), ('boss', 'use', 'desk'), ('clerk', 'ask', 'boss')])
+>>> right = ('clerk', 'use', 'desk')
+>>> [least_roles(policy, frame, right), needed_roles(policy, frame, right), comes_by_roles(policy, frame, right, ['clerk'])]
+[[('boss',), ('clerk',)], [], True]
+""",
+    "rulesets": """
+>>> from handedkeys.policies import Policy
+>>> from handedkeys.rulesets import compared, fewest_rules, least_rules, missing, shared
+>>> policy = Policy([('raise', 'own', 'use'), ('raise', 'own', 'lend'), ('raise', 'lend', 'use')])
+>>> other = Policy([('raise', 'own', 'use'), ('raise', 'lend', 'use')])
+>>> [least_rules(policy), fewest_rules(policy), missing(policy, other), shared(policy, other) == other, compared(policy, other)]
+[[(1, 2)], 2, [(1, None)], True, 'more']
+""",
+    "worths": """
+>>> from handedkeys.policies import Policy
+>>> from handedkeys.worths import least_words, same_words, strongest, together, worth
+>>> policy = Policy([('raise', 'own', 'use'), ('raise', 'use', 'see'), ('raise', 'see', 'use'), ('meet', 'see', 'key', 'own')])
+>>> [worth(policy, 'own'), same_words(policy), strongest(policy), together(policy, ['key', 'use']), least_words(policy, 'own')]
+[['own', 'see', 'use'], [['key'], ['own'], ['see', 'use']], ['key', 'own'], ['key', 'own', 'see', 'use'], [('own',), ('key', 'see'), ('key', 'use')]]
+""",
+    "histories": """
+>>> from handedkeys.histories import count_orders, count_states, number_of_order, order_with
+>>> from handedkeys.policies import Policy
+>>> from handedkeys.states import State
+>>> policy, state = Policy([('raise', 'own', 'lend'), ('raise', 'own', 'use'), ('raise', 'use', 'see')]), State(['ann'], ['box'], [('ann', 'own', 'box')])
+>>> [count_orders(policy, state), count_states(policy, state), [word for one, word, other in order_with(policy, state, 1)], number_of_order(policy, state, [])]
+[3, 6, ['use', 'lend', 'see'], None]
+""",
+    "mends": """
+>>> from handedkeys.mends import at_odds, least_mends, least_taken, least_unwilling
+>>> from handedkeys.policies import Policy
+>>> from handedkeys.states import State
+>>> policy = Policy([('raise', 'own', 'use'), ('raise', 'own', 'lend')])
+>>> state, use = State(['ann', 'bob'], ['box'], [('ann', 'own', 'box'), ('bob', 'own', 'box')]), ('bob', 'use', 'box')
+>>> [least_mends(policy, state, [('ann', 'use', 'box')], [use]), least_taken(policy, state, [('ann', 'lend', 'box')], [use]), least_unwilling(policy, state, [], [use]), at_odds(policy, state, [('ann', 'own', 'bob')], [('ann', 'use', 'bob')])]
+[[(('bob', 'own', 'box'),)], [(0,)], [('bob',)], [('ann', 'own', 'bob')]]
+""",
 }
 
 

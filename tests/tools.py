@@ -46,6 +46,15 @@ def cases(seed, many, words="abc", people=(1, 3), things=(0, 2), rights=(0, 6), 
         yield policy, random_state(rnd, list(words), rnd.randint(*people), rnd.randint(*things), rnd.randint(*rights))
 
 
+def busy_cases(seed, many):
+    """Generate random policies of fetches and hands that hand on one word, often along several ways, and states."""
+    rnd = random.Random(seed)
+    for number in range(many):
+        rules = [(kind, rnd.choice("ab"), [("a", "a"), ("b", "b")][:rnd.randint(1, 2)]) for kind in ("fetch", "hand")]
+        rules += [("raise", "a", "b")] * rnd.randint(0, 1) + [("make", ["a"])] * (number % 2)
+        yield Policy(rules), random_state(rnd, ["a", "b"], rnd.randint(2, 3), rnd.randint(0, 1), rnd.randint(5, 9))
+
+
 def plain_deeds(policy, people, names, held):
     """All deeds but makes and drops that can be done, with the right that each brings."""
     found = []
