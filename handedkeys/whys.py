@@ -45,14 +45,14 @@ class Why:
         return isinstance(other, Why) and as_rows(self.steps) == as_rows(other.steps)
 
 
-def is_step_deed(rules, people, names, deed):
-    """Whether a value is a deed of a rule but a make, by one of the people, with these names."""
+def is_step_deed(rules, people, deed):
+    """Whether a value has the form of a deed of a rule but a make, by one of the people."""
     if not is_place(deed[0], len(rules)) or deed[1] not in people:
         return False
     rule = rules[deed[0]]
     if rule[0] in ("fetch", "hand"):
-        return len(deed) == 5 and deed[2] in names and deed[3] in names and deed[4] in rule[2]
-    return rule[0] != "make" and len(deed) == 3 and deed[2] in names
+        return len(deed) == 5 and deed[4] in rule[2]
+    return rule[0] != "make" and len(deed) == 3
 
 
 def are_founded(rules, state, steps):
@@ -61,7 +61,7 @@ def are_founded(rules, state, steps):
     made = web.rights_in(web.makes([web.place[name] for name in state.people]))
     there = {right: True for right in state.rights + made}
     for deed, right in steps:
-        if right in there or not is_step_deed(rules, state.people, web.names, deed):
+        if right in there or not is_step_deed(rules, state.people, deed):
             return False
         if brought_by(rules, deed) != [right] or not all([asked in there for asked in asked_for(rules, deed)]):
             return False

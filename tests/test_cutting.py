@@ -3,6 +3,7 @@ import random
 import time
 import unittest
 
+from handedkeys.adding import Ground
 from handedkeys.cutting import idle_rights, least_cuts, only_hopes, what_is_lost
 from handedkeys.errors import BadNumber, BadPolicy, BadRight, BadState, TooLarge
 from handedkeys.policies import Policy
@@ -139,6 +140,16 @@ class CutsTest(unittest.TestCase):
                 else:
                     self.assertIn(least_cuts(policy, state, right, 0), ([], [()]))
         self.assertTrue(counts[14] and counts[15] and counts[1], counts)
+
+    def test_rights_on_ways_against_going_through_all_deeds(self):
+        sizes = set()
+        for policy, state in itertools.chain(cases(121, 150, "abc", rights=(1, 12), rules=(1, 5)), busy_cases(122, 40)):
+            for right in random.Random(6).sample(all_rights(state, "abcd"), 4):
+                ground = Ground(policy.rules, state, [right])
+                found = ground.on_ways(ground.rows, state.rights, [right])
+                self.assertEqual(found, sorted(plain_ways(policy, state, right) & set(state.rights)), (policy.rules, state.rights, right))
+                sizes.add(len(found))
+        self.assertTrue(set(range(8)) <= sizes, sizes)
 
     def test_errors_in_order(self):
         large = State(list(LETTERS), [])

@@ -76,6 +76,8 @@ class MendsTest(unittest.TestCase):
         for most, told in ((0, []), (1, []), (2, []), (3, [(LEND, OWN, USE)])):
             self.assertEqual(least_mends(POLICY, wide, [], [USE], most), told)
         self.assertEqual(least_mends(POLICY, wide, [], [USE]), [])
+        self.assertEqual(least_mends(POLICY, wide - [USE], [], [USE]), [(LEND, OWN)])
+        self.assertEqual(least_mends(POLICY, wide - [USE], [], [USE], 1), [])
         self.assertEqual(least_mends(POLICY, wide, [], [USE, USE], most=3), [(LEND, OWN, USE)])
 
     def test_a_greater_set_does_not_do_for_what_is_wanted(self):
@@ -156,6 +158,7 @@ class MendsTest(unittest.TestCase):
             refused(self, TooLarge, call, rules, large, "bad", "bad", *rest)
             for one in wrong:
                 refused(self, BadRight, call, POLICY, STATE, one, "bad", *rest)
+                refused(self, BadRight, call, POLICY, STATE, one, [], *rest)
                 refused(self, BadRight, call, POLICY, STATE, [OWN, OWN], one, *rest)
             refused(self, BadRight, call, rules, many, [], "bad", *rest)
         for most in (4, -1, True, False, None, "2", 2.0):

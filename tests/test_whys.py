@@ -74,6 +74,9 @@ class WhyTest(unittest.TestCase):
     def test_two_makers(self):
         steps = MADE_STEPS + [((1, "bob", "bob+", "ann+", ("use", "use")), ("bob+", "use", "ann+"))]
         self.assertEqual([Why(steps).makers(), Why(steps[:2]).makers(), Why([]).makers()], [["ann", "bob"], ["ann"], []])
+        many = [((0, name, name + "+"), (name, "own", name + "+")) for name in ("hal", "eve", "bob", "gus", "cat", "ann", "dan", "fay", "eve")]
+        names = ["ann", "bob", "cat", "dan", "eve", "fay", "gus", "hal"]
+        self.assertEqual([Why(many).makers(), Why(many).actors()], [names, names])
 
     def test_true_evidence(self):
         lengths, with_helpers = set(), 0
@@ -140,6 +143,45 @@ class WhyTest(unittest.TestCase):
         for changed in (steps[1:], steps[::-1], [steps[0], ((1, "ann", "box", "box", ("own", "own")), right)], [((1, "ann", "box"), ("ann", "use", "box")), steps[1]],
                         [steps[0], ((1, "ann", "tin"), right)], [steps[0], ((1, "box", "box"), right)]):
             self.assertFalse(Why(changed).shows(policy, state, right))
+
+    def test_only_people_do_deeds(self):
+        policy = Policy([("raise", "own", "use"), ("make", ["give"]), ("hand", "give", [("own", "own")])])
+        state = State(["ann"], ["box"], [("box", "own", "box"), ("ann", "own", "box"), ("ann", "own", "ann")])
+        self.assertFalse(Why([((0, "box", "box"), ("box", "use", "box"))]).shows(policy, state, ("box", "use", "box")))
+        self.assertTrue(Why([((0, "ann", "ann"), ("ann", "use", "ann"))]).shows(policy, state, ("ann", "use", "ann")))
+        policy = policy + Policy([("fetch", "give", [("use", "see")])])
+        put = ((2, "ann", "ann+", "box", ("own", "own")), ("ann+", "own", "box"))
+        raised = ((0, "ann+", "box"), ("ann+", "use", "box"))
+        seen = ((3, "ann", "ann+", "box", ("use", "see")), ("ann", "see", "box"))
+        self.assertFalse(Why([put, raised, seen]).shows(policy, state, ("ann", "see", "box")))
+
+    def test_no_step_is_a_make(self):
+        policy = Policy([("make", ["own"]), ("hand", "own", [("use", "use")]), ("fetch", "own", [("use", "see")])])
+        state = State(["ann", "bob"], ["box"], [("ann", "use", "box")])
+        for name, made in (("ann+", []), ("bob+", [((0, "ann", "bob+"), ("ann", "own", "bob+"))])):
+            steps = made + [((1, "ann", name, "box", ("use", "use")), (name, "use", "box")),
+                            ((2, "ann", name, "box", ("use", "see")), ("ann", "see", "box"))]
+            self.assertIs(Why(steps).shows(policy, state, ("ann", "see", "box")), name == "ann+")
+        kept = Policy([("make", ["own"]), ("fetch", "own", [("use", "see")])])
+        state = State(["ann", "bob"], [], [("ann", "own", "bob")])
+        for name in ("ann+", "bob+", "new", "bob"):
+            self.assertFalse(Why([((0, "ann", name), ("ann", "own", name))]).shows(kept, state, ("ann", "own", "ann")))
+            self.assertFalse(Why([((0, "ann", name), ("ann", "own", "ann"))]).shows(kept, state, ("ann", "own", "ann")))
+        self.assertFalse(Why([((0, "ann", "ann"), ("ann", "own", "ann"))]).shows(policy, state, ("ann", "own", "ann")))
+
+    def test_what_a_deed_does_not_bring(self):
+        deed = (0, "ann", "bob", "box", ("use", "use"))
+        for right in (("ann", "use", "bob"), ("ann", "take", "box"), ("bob", "own", "box")):
+            self.assertFalse(Why([(deed, right)]).shows(FETCH, STATE, right))
+        strange = ((0, "ann", "bob", "box", ("use", "own")), ("ann", "own", "box"))
+        self.assertFalse(Why([strange]).shows(FETCH, STATE, ("ann", "own", "box")))
+        raised = Policy([("raise", "own", "use"), ("meet", "own", "own", "see")])
+        state = State(["ann"], ["box"], [("ann", "own", "box")])
+        for long in ((0, "ann", "box", "box", ("own", "use")), (0, "ann", "box", "box"), (1, "ann", "box", "box", ("own", "see"))):
+            right = ("ann", "use" if long[0] == 0 else "see", "box")
+            self.assertTrue(Why([(long[:3], right)]).shows(raised, state, right))
+            self.assertFalse(Why([(long, right)]).shows(raised, state, right))
+        self.assertFalse(Why([((0, "ann", "bob"), GOAL)]).shows(FETCH, STATE, GOAL))
 
     def test_changed_at_random(self):
         rnd = random.Random(133)

@@ -108,6 +108,8 @@ class WorthTest(unittest.TestCase):
             self.assertEqual(refused(self, BadPolicy, is_worth, POLICY, word, "Other").number, word)
             self.assertEqual(refused(self, BadPolicy, is_worth, POLICY, "own", word).number, word)
             self.assertIsNone(refused(self, BadPolicy, together, POLICY, ["own", word]).number)
+        self.assertIsNone(refused(self, BadPolicy, together, None, ["own"]).number)
+        self.assertIsNone(refused(self, BadPolicy, together, None, []).number)
         for words in (None, "own", {"own": 1}, 5, {"own"}):
             self.assertIsNone(refused(self, BadPolicy, together, POLICY, words).number)
 
