@@ -1,8 +1,9 @@
 """The refusals that most functions have in common, in the order in which they come."""
 
-from handedkeys.errors import BadNumber, BadParty, BadPolicy, BadRight, BadState, TooLarge
+from handedkeys.errors import BadDeed, BadNumber, BadParty, BadPolicy, BadRight, BadState, TooLarge
 from handedkeys.forms import are_rights, is_place, is_right, is_row
 from handedkeys.policies import Policy
+from handedkeys.rules import has_form
 from handedkeys.states import State
 
 MOST_PARTIES = 12
@@ -20,6 +21,16 @@ def check_state(policy, state):
     check_policy(policy)
     if not isinstance(state, State):
         raise BadState(None)
+
+
+def check_plan(policy, plan):
+    """Refuse what is no policy, and what is no list or tuple of values in the form of its deeds."""
+    check_policy(policy)
+    if not is_row(plan):
+        raise BadDeed(None)
+    for place, deed in enumerate(plan):
+        if not has_form(policy.rules, deed):
+            raise BadDeed(place)
 
 
 def check_case(policy, state):

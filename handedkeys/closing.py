@@ -59,13 +59,17 @@ def is_closed(rules, state, rights):
     return len(web.consequences(rows, everything(rows), actors)) == 0
 
 
-def judge_can(policy, state, right):
-    """A Can, if a right can come up, otherwise a Never."""
-    check_question(policy, state, right)
-    reach = reach_of(policy.rules, state)
+def answer_for(reach, right):
+    """A Can, if a right is among all that can come up, otherwise a Never."""
     if right in reach.since:
         return Can(reach.deeds_to(right))
     return Never(sorted(reach.since))
+
+
+def judge_can(policy, state, right):
+    """A Can, if a right can come up, otherwise a Never."""
+    check_question(policy, state, right)
+    return answer_for(reach_of(policy.rules, state), right)
 
 
 def can_come(policy, state, right):
