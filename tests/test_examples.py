@@ -166,6 +166,95 @@ EXAMPLES = {
 >>> [least_mends(policy, state, [('ann', 'use', 'box')], [use]), least_taken(policy, state, [('ann', 'lend', 'box')], [use]), least_unwilling(policy, state, [], [use]), at_odds(policy, state, [('ann', 'own', 'bob')], [('ann', 'use', 'bob')])]
 [[(('bob', 'own', 'box'),)], [(0,)], [('bob',)], [('ann', 'own', 'bob')]]
 """,
+    "leanstates": r"""
+>>> from handedkeys.leanstates import compared_states, lean_state, least_states, united
+>>> from handedkeys.policies import Policy
+>>> from handedkeys.states import State
+>>> policy = Policy([('raise', 'own', 'use'), ('meet', 'key', 'use', 'open')])
+>>> state, other = State(['ann'], ['box'], [('ann', 'own', 'box'), ('ann', 'use', 'box')]), State(['ann'], ['box'], [('ann', 'key', 'box')])
+>>> [list(lean_state(policy, state)), least_states(policy, state), compared_states(policy, state, lean_state(policy, state)), united(policy, state, other)]
+[[('ann', 'own', 'box')], [(('ann', 'own', 'box'),)], 'same', [('ann', 'open', 'box')]]
+""",
+    "plans 0": r"""
+>>> from handedkeys.plans import effect, judge_plans, least_state, leaned, most_times
+>>> from handedkeys.policies import Policy
+>>> policy = Policy([("fetch", "take", [("read", "read")]), ("make", ["take", "read"])])
+>>> plan = [(1, "ann", "box"), (0, "ann", "bob", "file", ("read", "read")), ("drop", "ann", "take", "bob")]
+>>> found = effect(policy, plan)
+>>> [found.people, found.needs, found.gone, found.made, least_state(policy, plan).things]
+[['ann'], [('ann', 'take', 'bob'), ('bob', 'read', 'file')], [('ann', 'take', 'bob')], ['box'], ['bob', 'file']]
+""",
+    "plans 1": r"""
+>>> from handedkeys.plans import effect, judge_plans, least_state, leaned, most_times
+>>> from handedkeys.policies import Policy
+>>> policy = Policy([("fetch", "take", [("read", "read")]), ("make", ["take", "read"])])
+>>> plan = [(1, "ann", "box"), (0, "ann", "bob", "file", ("read", "read")), ("drop", "ann", "take", "bob")]
+>>> found = effect(policy, plan)
+>>> [bool(judge_plans(policy, plan, plan[::-1])), most_times(policy, plan[1:]), len(leaned(policy, plan[:2] + plan[1:2]))]
+[False, 1, 2]
+""",
+    "keytexts": r"""
+>>> from handedkeys.keytexts import read_plan, read_policy, read_state, write_plan, write_policy, write_state
+>>> policy = read_policy('fetch by take: read to read # and no more\nmake take')
+>>> [write_policy(policy), write_state(read_state('things: f\npeople: b,a\na take b')), write_plan(policy, read_plan(policy, '0:a b f read to read'))]
+['fetch by take: read to read\nmake take\n', 'people: a, b\nthings: f\na take b\n', '0: a b f read to read\n']
+""",
+    "keyrooms": r"""
+>>> from handedkeys.keyrooms import Room
+>>> from handedkeys.policies import Policy
+>>> from handedkeys.states import State
+>>> room = Room(Policy([("fetch", "take", [("read", "read")])]), State(["ann", "bob"], ["file"], [("bob", "read", "file")]))
+>>> [room.promise([("ann", "read", "file")]), room.grant([("ann", "take", "bob")]), room.harmless([("bob", "take", "ann")]), len(room)]
+[True, False, [('bob', 'take', 'ann')], 1]
+""",
+    "mixing": r"""
+>>> from handedkeys.mixing import judge_mixings, mixed, never_mixed
+>>> from handedkeys.policies import Policy
+>>> policy = Policy([("raise", "own", "read")])
+>>> one, other = [(0, "ann", "file")], [("drop", "ann", "own", "file")]
+>>> [bool(judge_mixings(policy, one, other)), never_mixed(policy, one, other), mixed(policy, one, other, [1, 0])]
+[False, [(1, 0)], [('drop', 'ann', 'own', 'file'), (0, 'ann', 'file')]]
+""",
+    "templates": r"""
+>>> from handedkeys.policies import Policy
+>>> from handedkeys.templates import Template, judge_templates, ways
+>>> policy = Policy([("fetch", "take", [("read", "read")])])
+>>> one = Template(policy, ["x", "y"], [(0, "ann", "x", "f", ("read", "read")), (0, "ann", "y", "f", ("read", "read"))])
+>>> other = Template(policy, ["x", "y"], one.fill(["y", "x"]))
+>>> [one.fill(["bob", "ann"])[1], len(ways(one)), ways(one)[:3], bool(judge_templates(one, other)), one.fixed()]
+[(0, 'ann', 'ann', 'f', ('read', 'read')), 10, [('ann', 'ann'), ('ann', 'f'), ('ann', 'aa')], False, ['ann', 'f']]
+""",
+    "books": r"""
+>>> from handedkeys.books import read_book
+>>> text = 'module lending(own, lend)\nraise own to use\nhand by lend: use to use\nend\npolicy office\nuse lending(keep, give)\nmake give\nend\nstate home\npeople: ann\nthings: box\nann keep box\nend'
+>>> book = read_book(text)
+>>> [book.names(), list(book.policy('office')), list(book.state('home')), len(book)]
+[['home', 'lending', 'office'], [('raise', 'keep', 'use'), ('hand', 'give', (('use', 'use'),)), ('make', ('give',))], [('ann', 'keep', 'box')], 0]
+""",
+    "bookwriting": r"""
+>>> from handedkeys.books import read_book
+>>> from handedkeys.bookwriting import write_book
+>>> book = read_book('policy a # one\nfetch by w: s to s,r to r\nend\npolicy b\nend\nclaim z: a does b')
+>>> write_book(book)
+'policy a\nfetch by w: r to r, s to s\nend\npolicy b\nend\nclaim z: a does b\n'
+""",
+    "claims": r"""
+>>> from handedkeys.books import read_book
+>>> from handedkeys.claims import fewest_run, judge_book, judge_claim
+>>> text = 'policy office\nraise keep to use\nhand by give: use to use\nend\npolicy tight\nraise keep to use\nend\nstate home\npeople: ann, bob\nthings: box\nann keep box\nann give bob\nend\n'
+>>> book = read_book(text + 'claim one: office never home bob use box\nclaim two: office does tight\nclaim three: tight never home bob use box')
+>>> [judge_book(book), fewest_run(book, 'one').deeds, judge_claim(book, 'two').shows(book, 'two'), fewest_run(book, 'three')]
+[{'one': False, 'three': True, 'two': True}, [(0, 'ann', 'box'), (1, 'ann', 'bob', 'box', ('use', 'use'))], True, None]
+""",
+    "bookchanges": r"""
+>>> from handedkeys.bookchanges import broken_by, claim_mends, claims_left, needless_lines, without_lines
+>>> from handedkeys.books import read_book
+>>> text = 'policy office\nraise keep to use\nhand by give: use to use\nraise keep to use\nend\nstate home\npeople: ann, bob\nthings: box\nann keep box\nann give bob\nend\n'
+>>> book = read_book(text + 'claim one: office never home bob use box\nclaim two: office can home ann use box')
+>>> late = without_lines(book, [('policy', 'office', 1)])
+>>> [claim_mends(book, 'one'), needless_lines(book), broken_by(late, book), claims_left(late)]
+[[(('policy', 'office', 1),), (('state', 'home', 0),)], [('policy', 'office', 0), ('policy', 'office', 2)], ['one'], ['one']]
+""",
 }
 
 
