@@ -93,17 +93,17 @@ def claim_mends(book, name, most=1):
     if count_sets(len(lines), most) > MOST_SETS:
         raise TooLarge("the book has too many sets of lines")
     thinning = Thinning(book)
-    kept = [one for one in book.claims if thinning.holds(one, ())]
+    kept = [one for one in book.claims if thinning.stands(one, ())]
     first = [one for one in kept if book.claims[one][1] == "can"]
     then = [one for one in kept if book.claims[one][1] != "can"]
     found = []
     hopeless = []
     for group in groups_of(lines, most):
-        if any([is_part(less, group) for less in found + hopeless]) or not thinning.holds(name, group):
+        if any([is_part(less, group) for less in found + hopeless]) or not thinning.stands(name, group):
             continue
-        if not thinning.all_hold(first, group):
+        if not thinning.all_stand(first, group):
             hopeless.append(group)
-        elif thinning.all_hold(then, group):
+        elif thinning.all_stand(then, group):
             found.append(group)
     return found
 
@@ -119,7 +119,7 @@ def claims_left(book):
     """The ascending list of the claims that hold, and still do whichever single line is taken out."""
     check_book(book)
     thinning = Thinning(book)
-    return [name for name in sorted(book.claims) if thinning.holds(name, ()) and thinning.lasts(name)]
+    return [name for name in sorted(book.claims) if thinning.stands(name, ()) and thinning.lasts(name)]
 
 
 def used_modules(book, name):

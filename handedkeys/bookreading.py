@@ -27,7 +27,7 @@ class BookReader:
         self.text = text
         self.lines = lines_of(text)
         self.place = 0
-        self.names = {}
+        self.kinds = {}
         self.parts = {}
         self.modules = {}
         self.policies = {}
@@ -47,7 +47,7 @@ class BookReader:
         while self.place < len(self.lines):
             line = self.next_line()
             kind = line.said()
-            line.take(kind in KINDS and list(self.names.values()).count(kind) < MOST_OF_A_KIND)
+            line.take(kind in KINDS and list(self.kinds.values()).count(kind) < MOST_OF_A_KIND)
             name = self.read_name(line, kind)
             if kind == "module":
                 self.read_module(line, name)
@@ -63,8 +63,8 @@ class BookReader:
     def read_name(self, line, kind):
         """Read the new name of something of a kind."""
         name = line.said()
-        line.take(is_word(name) and name not in BARRED and name not in self.names)
-        self.names[name] = kind
+        line.take(is_word(name) and name not in BARRED and name not in self.kinds)
+        self.kinds[name] = kind
         return name
 
     def read_module(self, line, name):

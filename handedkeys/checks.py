@@ -16,11 +16,22 @@ def check_policy(policy):
         raise BadPolicy(None)
 
 
+def check_plain_state(state):
+    """Refuse what is no state, whatever its size."""
+    if not isinstance(state, State):
+        raise BadState(None)
+
+
 def check_state(policy, state):
     """Refuse what is no policy, or no state, whatever its size."""
     check_policy(policy)
-    if not isinstance(state, State):
-        raise BadState(None)
+    check_plain_state(state)
+
+
+def check_size(state):
+    """Refuse a state of too many parties."""
+    if len(state.people) + len(state.things) > MOST_PARTIES:
+        raise TooLarge("the state has too many parties")
 
 
 def check_plan(policy, plan):
@@ -36,8 +47,7 @@ def check_plan(policy, plan):
 def check_case(policy, state):
     """Refuse what is no policy, no state, or a state of too many parties."""
     check_state(policy, state)
-    if len(state.people) + len(state.things) > MOST_PARTIES:
-        raise TooLarge("the state has too many parties")
+    check_size(state)
 
 
 def check_question(policy, state, right):

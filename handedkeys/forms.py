@@ -1,6 +1,7 @@
 """The forms that values have: words, groups of words, rights, integers."""
 
 LONGEST_WORD = 8
+LETTERS = "abcdefghijklmnopqrstuvwxyz"
 
 
 def is_integer(value):

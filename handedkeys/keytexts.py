@@ -1,7 +1,6 @@
 """Policies, states and plans as texts."""
 
-from handedkeys.checks import check_plan, check_policy
-from handedkeys.errors import BadState
+from handedkeys.checks import check_plain_state, check_plan, check_policy, check_size
 from handedkeys.listing import Listing, listing_lines
 from handedkeys.policies import MOST_RULES, Policy
 from handedkeys.rules import is_drop
@@ -70,8 +69,8 @@ def write_policy(policy):
 
 def write_state(state):
     """The text of a state."""
-    if not isinstance(state, State):
-        raise BadState(None)
+    check_plain_state(state)
+    check_size(state)
     return text_of(listing_lines(state.people, state.things, state.rights))
 
 

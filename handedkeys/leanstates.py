@@ -1,7 +1,7 @@
 """What two states with the same parties have in common, and what of a state is enough for it."""
 
 from handedkeys.adding import Ground
-from handedkeys.checks import check_case, check_state
+from handedkeys.checks import check_case, check_size, check_state
 from handedkeys.cutting import idle_rights
 from handedkeys.errors import BadState, TooLarge
 from handedkeys.groups import groups_of, is_part
@@ -15,8 +15,8 @@ def check_states(policy, one, other):
     """Refuse what is no policy, no two states, and states of other parties."""
     check_state(policy, one)
     check_state(policy, other)
-    check_case(policy, one)
-    check_case(policy, other)
+    check_size(one)
+    check_size(other)
     if one.people != other.people:
         raise BadState("people")
     if one.things != other.things:

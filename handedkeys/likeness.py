@@ -1,20 +1,13 @@
 """Parties that are alike, and what can be kept from ever coming up."""
 
 from handedkeys.adding import Ground, absent_rights, bringing, words_with
-from handedkeys.checks import check_case, check_rights
-from handedkeys.errors import BadParty, BadRight, BadState, TooLarge
+from handedkeys.checks import check_case, check_plain_state, check_rights
+from handedkeys.errors import BadParty, BadRight, TooLarge
 from handedkeys.forms import is_word
 from handedkeys.reaching import reach_of
-from handedkeys.states import State
 
 MOST_ALIKE = 7
 MOST_ADDED_TO = 6
-
-
-def check_plain_state(state):
-    """Refuse what is no state."""
-    if not isinstance(state, State):
-        raise BadState(None)
 
 
 def check_alike_size(state):

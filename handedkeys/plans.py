@@ -1,7 +1,7 @@
 """Plans: lists of deeds, what they ask of a state, and what they leave behind, whatever the state."""
 
-from handedkeys.checks import MOST_PARTIES, check_plan
-from handedkeys.errors import BadNumber, BadRight, BadState, NeverDone, TooLarge
+from handedkeys.checks import check_plain_state, check_plan, check_size
+from handedkeys.errors import BadNumber, BadRight, NeverDone
 from handedkeys.forms import as_rows, is_place, is_right
 from handedkeys.reaching import reach_of
 from handedkeys.sketches import sketch_of
@@ -26,8 +26,7 @@ class Effect:
 
     def allows(self, state):
         """Whether a state allows the plan."""
-        if not isinstance(state, State):
-            raise BadState(None)
+        check_plain_state(state)
         held = {right: True for right in state.rights}
         parties = state.people + state.things
         return (all([name in state.people for name in self.people]) and all([right in held for right in self.needs])
@@ -217,6 +216,5 @@ def sure_to_come(policy, plan, right):
     state = found.behind(found.least())
     if not is_right(right, state.people + state.things):
         raise BadRight("this is no right between the parties")
-    if len(state.people) + len(state.things) > MOST_PARTIES:
-        raise TooLarge("the plan has too many parties")
+    check_size(state)
     return right in reach_of(policy.rules, state).since

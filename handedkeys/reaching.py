@@ -3,10 +3,9 @@
 Rights are told between the parties and the helpers of a state.
 """
 
+from handedkeys.forms import LETTERS
 from handedkeys.rules import asked_for, make_number
 from handedkeys.webs import Web, helper_of, is_helper
-
-LETTERS = "abcdefghijklmnopqrstuvwxyz"
 
 
 class Reach:

@@ -1,13 +1,12 @@
 """Plans of which some names stand for any parties."""
 
-from handedkeys.checks import check_plan
-from handedkeys.errors import BadParty, BadPolicy, BadState, TooLarge
-from handedkeys.forms import are_words, is_row, is_word
+from handedkeys.checks import check_plain_state, check_plan
+from handedkeys.errors import BadParty, BadPolicy, TooLarge
+from handedkeys.forms import LETTERS, are_words, is_row, is_word
 from handedkeys.plans import copied_state, differ_in, plan_effect, state_apart
 from handedkeys.policies import Policy
+from handedkeys.reaching import free_words
 from handedkeys.rules import is_drop
-from handedkeys.states import State
-from handedkeys.wording import SMALL_LETTERS
 
 MOST_NAMES = 5
 MOST_WAYS = 2000
@@ -71,8 +70,7 @@ class SometimesOther:
         if len(self.parties) != len(one.names):
             return False
         check_fill(one, self.parties)
-        if not isinstance(self.state, State):
-            raise BadState(None)
+        check_plain_state(self.state)
         first, second = filled_effects(one, other, self.parties)
         return differ_in(first, second, self.state)
 
@@ -129,22 +127,26 @@ def check_templates(templates):
 
 
 def words_for_next(fixed, way):
-    """The list of the words for the next name behind a way: fixed ones, those ahead, and a new one."""
+    """The list of the words for the next name behind a way: fixed ones, those ahead, and a new one.
+
+    The new one is of two letters, or, if all of these are taken, any other one.
+    """
     ahead = []
     for name in way:
         if name not in fixed and name not in ahead:
             ahead.append(name)
-    for first in SMALL_LETTERS:
-        for second in SMALL_LETTERS:
+    for first in LETTERS:
+        for second in LETTERS:
             if first + second not in fixed and first + second not in ahead:
                 return list(fixed) + ahead + [first + second]
-    return list(fixed) + ahead
+    return list(fixed) + ahead + free_words(list(fixed) + ahead, 1)
 
 
 def ways(*templates):
     """The list of the tuples of words for the names, one for each way in which these can fall together."""
     check_templates(templates)
-    fixed = {name: True for name in sorted([name for template in templates for name in template.fixed()])}
+    others = [name for template in templates for name in template.fixed()]
+    fixed = {name: True for name in sorted(others)}
     found = [()]
     for _ in templates[0].names:
         choices = [(way, words_for_next(fixed, way)) for way in found]

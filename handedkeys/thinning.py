@@ -121,9 +121,15 @@ class Thinning:
         """Whether the rules of some parts do all that those of others do."""
         key = (tuple(parts), tuple(left))
         if key not in self.judged:
-            rules = rules_of(parts)
-            self.judged[key] = all([self.does_rule(rule, left) for rule in rules])
+            self.judged[key] = self.does_each(rules_of(parts), left)
         return self.judged[key]
+
+    def does_each(self, rules, left):
+        """Whether the rules of some parts do what each of some rules does."""
+        for rule in rules:
+            if not self.does_rule(rule, left):
+                return False
+        return True
 
     def does_rule(self, rule, left):
         """Whether the rules of some parts do what a rule does, with all its pairs."""
@@ -138,7 +144,7 @@ class Thinning:
             ways.append(parts_on(reach, wanted)[0])
         return True
 
-    def holds(self, name, gone):
+    def stands(self, name, gone):
         """Whether a claim holds without some lines."""
         claim = self.book.claims[name]
         if claim[1] in ("never", "can"):
@@ -146,10 +152,10 @@ class Thinning:
         first, second = self.parts_left(claim[0], gone), self.parts_left(claim[2], gone)
         return self.does_all(second, first) and (claim[1] == "does" or self.does_all(first, second))
 
-    def all_hold(self, names, gone):
+    def all_stand(self, names, gone):
         """Whether some claims all hold without some lines."""
         for name in names:
-            if not self.holds(name, gone):
+            if not self.stands(name, gone):
                 return False
         return True
 
@@ -170,7 +176,7 @@ class Thinning:
         if self.book.claims[name][1] == "never":
             return True
         for line in self.lines_about(name):
-            if not self.holds(name, (line,)):
+            if not self.stands(name, (line,)):
                 return False
         return True
 

@@ -1,10 +1,9 @@
 """Lines of texts, read word by word, number by number, and sign by sign."""
 
 from handedkeys.errors import BadText
-from handedkeys.forms import is_word
+from handedkeys.forms import LETTERS, is_word
 from handedkeys.policies import MOST_IN_ONE
 
-SMALL_LETTERS = "abcdefghijklmnopqrstuvwxyz"
 FIGURES = "0123456789"
 MOST_FIGURES = 2
 RULE_KINDS = ("fetch", "hand", "raise", "meet", "make")
@@ -18,7 +17,7 @@ class Line:
 
     def __init__(self, number, text):
         self.number = number
-        self.behind = len(text) + 1
+        self.past_end = len(text) + 1
         self.parts = parts_of(text.partition("#")[0])
         self.at = 0
 
@@ -29,7 +28,7 @@ class Line:
 
     def refuse(self, place):
         """Refuse the part at a place, or the line's end, if there is none."""
-        raise BadText(self.number, self.parts[place][0] if place < len(self.parts) else self.behind)
+        raise BadText(self.number, self.parts[place][0] if place < len(self.parts) else self.past_end)
 
     def take(self, fits):
         """Pass the next part and return it; it is refused if it does not fit."""
@@ -67,7 +66,7 @@ def parts_of(text):
 
 def part_end(text, place):
     """The place behind the word, number or sign that begins at a place."""
-    for signs in (SMALL_LETTERS, FIGURES):
+    for signs in (LETTERS, FIGURES):
         if text[place] in signs:
             while place < len(text) and text[place] in signs:
                 place = place + 1

@@ -2,7 +2,7 @@ import random
 import time
 import unittest
 
-from handedkeys.errors import BadDeed, BadPolicy, BadState, BadText
+from handedkeys.errors import BadDeed, BadPolicy, BadState, BadText, TooLarge
 from handedkeys.keytexts import read_plan, read_policy, read_state, write_plan, write_policy, write_state
 from handedkeys.policies import Policy
 from handedkeys.states import State
@@ -129,8 +129,13 @@ class StateTextTest(KeyTextTest):
         state = read_state("people: people, things\nthings: a\npeople people things\nthings to a")
         self.assertEqual(list(state), [("people", "people", "things"), ("things", "to", "a")])
         self.assertTrue(read_state("things: b\nb r b\npeople: a\na r b") == State(["a"], ["b"], [("b", "r", "b"), ("a", "r", "b")]))
-        many = State(["p" + one + other for one in WORDS for other in WORDS], [])
+
+    def test_twelve_parties_and_thirteen(self):
+        many = State(["p" + word for word in WORDS], ["tin", "urn"])
         self.assertTrue(read_state(write_state(many)) == many)
+        more = State(many.people + ["zoe"], many.things)
+        self.assertTrue(read_state("people: %s\nthings: tin, urn" % ",".join(more.people)) == more)
+        refused(self, TooLarge, write_state, more)
 
     def test_no_parties(self):
         for text, line in (("", 2), ("\n", 3), ("# people: a", 2), ("\n\n  # a\n", 5)):
@@ -221,6 +226,8 @@ class RefusalsTest(KeyTextTest):
         start = time.perf_counter()
         names = ["".join(["p", one, other, third]) for one in WORDS for other in WORDS for third in WORDS]
         state = State(names, [], [(one, word, other) for one, other in zip(names, names[1:]) for word in WORDS])
+        self.assertTrue(read_state("people: " + ",".join(names) + "\n" + "\n".join(" ".join(right) for right in state)) == state)
+        state = State(WORDS, [], [(one, word, other) for one in WORDS for word in names[:20] for other in WORDS])
         self.assertTrue(read_state(write_state(state)) == state)
         plan = [(2, "ann", "box")] * 5000
         self.assertEqual(read_plan(POLICY, write_plan(POLICY, plan)), plan)

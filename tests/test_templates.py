@@ -122,6 +122,13 @@ class WaysTest(unittest.TestCase):
         self.assertEqual(found[-5:], [("ac", "ae", "ab"), ("ac", "ae", "ad"), ("ac", "ae", "ac"), ("ac", "ae", "ae"), ("ac", "ae", "af")])
         self.assertEqual(ways(Template(POLICY, ["aa"], [(2, "aa", "bob")])), [("bob",), ("aa",)])
 
+    def test_where_all_words_of_two_letters_are_fixed(self):
+        letters = "abcdefghijklmnopqrstuvwxyz"
+        template = Template(POLICY, ["x"], [(2, one + other, "x") for one, other in itertools.product(letters, repeat=2)])
+        found = ways(template)
+        self.assertEqual(found[:-1], list(itertools.product([one + other for one, other in itertools.product(letters, repeat=2)])))
+        self.assertNotIn(found[-1][0], template.fixed())
+
     def test_in_order(self):
         for fixed in ([], ["aa"], ["ann", "box"], ["a", "ab", "b"]):
             for names in ([], ["x"], ["x", "y"], ["x", "y", "z"], ["x", "y", "z", "u"]):
